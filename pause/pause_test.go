@@ -106,20 +106,20 @@ func TestPA2(t *testing.T) {
 	for range 500 {
 		now += r.Int63n(100)
 		at, _ := View(p, now)
-		p, err := Stop(p, now)
+		held, err := Stop(p, now)
 		if err != nil {
 			t.Fatal(err)
 		}
 		stopped := now
 		for range 5 {
 			now += r.Int63n(100)
-			if still, err := View(p, now); still != at || err != nil {
+			if still, err := View(held, now); still != at || err != nil {
 				t.Fatalf("%d became %d, %v", at, still, err)
 			}
 		}
-		on, gerr := Go(p, now, false)
+		on, gerr := Go(held, now, false)
 		further, verr := View(on, now+3)
-		jumped, jerr := Go(p, now, true)
+		jumped, jerr := Go(held, now, true)
 		ahead, aerr := View(jumped, now+3)
 		if further != at+3 || ahead != at+3+now-stopped || gerr != nil || verr != nil || jerr != nil || aerr != nil {
 			t.Fatalf("from %d: %d, %d", at, further, ahead)
