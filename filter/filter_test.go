@@ -122,6 +122,7 @@ func TestFI2(t *testing.T) {
 		{"bounded", Filter{[]Entry{at(0, 0, math.MinInt64, math.MaxInt64)}}, Rule{1 << 20, 1 << 50}, 1 << 50, span.Span{Lo: math.MinInt64, Hi: math.MaxInt64}, 1, 0},
 		{"Rho below 0", agree, Rule{-1, 100}, 0, span.Span{}, 0, 1},
 		{"Rho too great", agree, Rule{1<<20 + 1, 100}, 0, span.Span{}, 0, 1},
+		{"the least Keep", agree, Rule{0, 1}, 1, span.Span{Lo: 5, Hi: 10}, 2, 0},
 		{"Keep 0", agree, Rule{0, 0}, 0, span.Span{}, 0, 1},
 		{"Keep too great", agree, Rule{0, 1<<50 + 1}, 0, span.Span{}, 0, 1},
 		{"greatest Rho and Keep", agree, Rule{1 << 20, 1 << 50}, 0, span.Span{Lo: 5, Hi: 10}, 2, 0},
