@@ -118,6 +118,9 @@ func TestPG1Of(t *testing.T) {
 }
 
 func TestPG2(t *testing.T) {
+	if len(Words{}) != 16 {
+		t.Errorf("%d words", len(Words{}))
+	}
 	for _, p := range good() {
 		for _, seq := range []uint64{0, 1, 6, 7, math.MaxUint64 - 1, math.MaxUint64} {
 			w, err := Lay(p, seq)
