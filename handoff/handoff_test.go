@@ -69,7 +69,7 @@ func wrong() []Table {
 	nine := full(0)
 	nine.L = append(nine.L, entry(Owner, "i", 0))
 	return []Table{
-		{2, nil}, {-1, nil}, nine,
+		{2, nil}, {-1, nil}, {2, some().L}, nine,
 		{0, []Entry{entry(0, "a", 0)}}, {0, []Entry{entry(5, "a", 0)}}, {0, []Entry{entry(-1, "a", 0)}}, {0, []Entry{{Owner, 1, who("a", 0)}}}, {0, []Entry{{}}},
 		{0, []Entry{entry(Owner, "a", -1)}}, {0, []Entry{entry(Owner, "", 0)}}, {0, []Entry{entry(Owner, "A", 0)}}, {0, []Entry{big}}, {0, []Entry{bad}},
 		{0, []Entry{entry(Owner, "a", 0), entry(Owner, "a", 0)}}, {0, []Entry{entry(Owner, "b", 0), entry(Owner, "a", 0)}}, {0, []Entry{entry(Owner, "ab", 0), entry(Owner, "a", 0)}},
