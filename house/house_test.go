@@ -345,6 +345,16 @@ func TestHS3Errors(t *testing.T) {
 	}
 }
 
+func TestHS3Jump(t *testing.T) {
+	for jump, lost := range map[string]string{"0": "50", "1": "0", "-7": "0"} {
+		out := rest(t, "pass 100\npolicy 0 b 0 0 0 1 0 9 "+jump+"\nstop 0 b\npass 50\ngo 0 b\nshow 0\n")
+		want := strings.Repeat("code 0\n", 5) + "host 0 150 1 1\ntenant 1 0 b 0 0 0 " + lost + "\n"
+		if !strings.HasPrefix(out, want) {
+			t.Errorf("jump %s: %q, want %q", jump, out, want)
+		}
+	}
+}
+
 func TestHS3Down(t *testing.T) {
 	// What fails ahead of its act, and what is no act, leaves the bits.
 	out := rest(t, "down 1\nlearn 0 10 50000 x\nzone 0 b Z 0 1\nshow 0\nowners b\nwire\ncalm 1\npass 100\nread 0 b\ndown -\nread 0 b\nread 0 b\n")

@@ -167,6 +167,29 @@ func TestHY4SavingAtTheFloor(t *testing.T) {
 	}
 }
 
+func TestHY4Most(t *testing.T) {
+	m := running(t)
+	_, off, _ := present(m.h)
+	m.h.Clock.R.Most = off
+	m.do(Call{Kind: Read, Name: "b"}, 0)
+	m.h.Clock.R.Most = off - 1
+	m.do(Call{Kind: Read, Name: "b"}, 13)
+}
+
+func TestHY4SavingBelowZero(t *testing.T) {
+	h, err := New(0, rule())
+	m := &must{t, h}
+	m.host(h, err)
+	m.learn()
+	m.create(who("b"))
+	m.hear(-1000*second, -1000*second)
+	m.h = Settle(m.h)
+	// The recorded floor is not set, though its At is above the value.
+	if r := m.do(Call{Kind: Read, Name: "b"}, 0).R; r.Value >= 0 || !waits(m.h, "b") {
+		t.Errorf("a value below 0 was not saved: %v", r)
+	}
+}
+
 func TestHY4Step(t *testing.T) {
 	h, err := New(0, rule())
 	m := &must{t, h}

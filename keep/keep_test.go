@@ -100,6 +100,7 @@ func TestKE1Put(t *testing.T) {
 		{some(), "z", most, append(some().L, record("z", "", most)), 0},
 		{some(), "c", "1", slices.Replace(some().L, 2, 3, record("c", "c", "1")), 0},
 		{full(), "h", "1", slices.Replace(full().L, 7, 8, record("h", "s", "1")), 0},
+		{full(), "a", "1", slices.Replace(full().L, 0, 1, record("a", "s", "1")), 0},
 		{full(), "i", "1", nil, 7}, {full(), "", "1", nil, 1},
 		{some(), "", "1", nil, 1}, {some(), "0123456789abc", "1", nil, 1}, {some(), "a", "", nil, 1}, {some(), "a", most + "x", nil, 1},
 	} {

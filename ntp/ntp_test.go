@@ -242,6 +242,10 @@ func TestNT3Of(t *testing.T) {
 			t.Errorf("Of: %v, %v; want %v", s, err, want)
 		}
 	}
+	// Half of an even number of nanoseconds: Delay is 30518.
+	if s, err := Of(answer(func(p *Packet) { p.Delay = 2 }), asked, got); s.Err != 15259+76294+2 || err != nil {
+		t.Errorf("Of with an even delay: %v, %v", s, err)
+	}
 	for name, c := range map[string]struct {
 		change     func(p *Packet)
 		asked, got int64

@@ -155,6 +155,19 @@ func TestTW1Calm(t *testing.T) {
 	}
 }
 
+func TestTW1CalmAtMost(t *testing.T) {
+	x := running(t)
+	x = do(t, x, Act{Kind: Move, Host: 0, C: hyper.Call{Name: "b"}}, 0)
+	x = do(t, x, Act{Kind: Say, Host: 0}, 0)
+	for len(x.N.L) < 32 {
+		x = do(t, x, Act{Kind: Double}, 0)
+	}
+	// Each of the 32 offers is accepted, committed and done: of 128 letters, 100 come.
+	if got := Calm(x, 1); len(got.N.L) != 28 {
+		t.Errorf("%d letters are left", len(got.N.L))
+	}
+}
+
 func TestTW2Errors(t *testing.T) {
 	x := running(t)
 	for _, kind := range []int{-1, 11, math.MinInt, math.MaxInt} {
