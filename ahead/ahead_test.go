@@ -1,4 +1,4 @@
-package ahead
+package ahead_test
 
 import (
 	"errors"
@@ -7,6 +7,7 @@ import (
 	"math/rand"
 	"testing"
 
+	. "fusee/ahead"
 	"fusee/api"
 	"fusee/host"
 	"fusee/page"

@@ -1,4 +1,4 @@
-package audit
+package audit_test
 
 import (
 	"math"
@@ -7,6 +7,7 @@ import (
 	"slices"
 	"testing"
 
+	. "fusee/audit"
 	"fusee/tenant"
 )
 

@@ -1,4 +1,4 @@
-package blob
+package blob_test
 
 import (
 	"bytes"
@@ -7,6 +7,7 @@ import (
 	"testing"
 
 	"fusee/api"
+	. "fusee/blob"
 )
 
 // code is the number of an error, 0 without one.

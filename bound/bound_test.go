@@ -1,4 +1,4 @@
-package bound
+package bound_test
 
 import (
 	"errors"
@@ -9,6 +9,7 @@ import (
 
 	"fusee/ahead"
 	"fusee/api"
+	. "fusee/bound"
 	"fusee/fuzz"
 	"fusee/leap"
 	"fusee/page"

@@ -1,4 +1,4 @@
-package calls
+package calls_test
 
 import (
 	"bytes"
@@ -10,6 +10,7 @@ import (
 	"testing"
 
 	"fusee/api"
+	. "fusee/calls"
 	"fusee/host"
 	"fusee/hyper"
 	"fusee/leap"

@@ -1,4 +1,4 @@
-package civil
+package civil_test
 
 import (
 	"errors"
@@ -7,6 +7,7 @@ import (
 	"time"
 
 	"fusee/api"
+	. "fusee/civil"
 )
 
 // code is the number of an error, 0 without one.

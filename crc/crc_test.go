@@ -1,4 +1,4 @@
-package crc
+package crc_test
 
 import (
 	"bytes"
@@ -8,6 +8,7 @@ import (
 	"testing"
 
 	"fusee/api"
+	. "fusee/crc"
 )
 
 // some are bytes by chance, of several lengths.

@@ -1,4 +1,4 @@
-package drift
+package drift_test
 
 import (
 	"errors"
@@ -8,6 +8,7 @@ import (
 	"testing"
 
 	"fusee/api"
+	. "fusee/drift"
 )
 
 const greatest = math.MaxInt64

@@ -1,4 +1,4 @@
-package fields
+package fields_test
 
 import (
 	"bytes"
@@ -8,6 +8,7 @@ import (
 	"testing"
 
 	"fusee/api"
+	. "fusee/fields"
 )
 
 // code is the number of an error, 0 without one.

@@ -1,4 +1,4 @@
-package filter
+package filter_test
 
 import (
 	"errors"
@@ -8,6 +8,7 @@ import (
 	"testing"
 
 	"fusee/api"
+	. "fusee/filter"
 	"fusee/span"
 )
 

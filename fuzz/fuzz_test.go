@@ -1,4 +1,4 @@
-package fuzz
+package fuzz_test
 
 import (
 	"errors"
@@ -6,6 +6,7 @@ import (
 	"testing"
 
 	"fusee/api"
+	. "fusee/fuzz"
 	"fusee/prf"
 )
 

@@ -1,4 +1,4 @@
-package handoff
+package handoff_test
 
 import (
 	"errors"
@@ -10,6 +10,7 @@ import (
 
 	"fusee/api"
 	"fusee/floor"
+	. "fusee/handoff"
 	"fusee/message"
 	"fusee/policy"
 	"fusee/prf"
@@ -345,6 +346,16 @@ func (w *world) owners(name string) int {
 	return n
 }
 
+// knows tells whether a host has an entry of a tenant.
+func (w *world) knows(name string) bool {
+	for _, x := range w.t {
+		if _, err := Owned(x, name); code(err) != 6 {
+			return true
+		}
+	}
+	return false
+}
+
 // act does something by chance.
 func (w *world) act(t *testing.T, r *rand.Rand, names []string) {
 	host, name := r.Intn(2), names[r.Intn(len(names))]
@@ -407,8 +418,7 @@ func TestHA5(t *testing.T) {
 			}
 		}
 		for _, name := range names {
-			known := index(w.t[0], name) >= 0 || index(w.t[1], name) >= 0
-			if known && w.owners(name) != 1 {
+			if w.knows(name) && w.owners(name) != 1 {
 				t.Fatalf("round %d: %q has %d owners", round, name, w.owners(name))
 			}
 		}

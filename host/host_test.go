@@ -1,4 +1,4 @@
-package host
+package host_test
 
 import (
 	"errors"
@@ -8,6 +8,7 @@ import (
 	"testing"
 
 	"fusee/api"
+	. "fusee/host"
 	"fusee/ratio"
 	"fusee/servo"
 	"fusee/span"

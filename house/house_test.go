@@ -1,4 +1,4 @@
-package house
+package house_test
 
 import (
 	"errors"
@@ -10,6 +10,7 @@ import (
 	"fusee/api"
 	"fusee/fuzz"
 	"fusee/host"
+	. "fusee/house"
 	"fusee/hyper"
 	"fusee/leap"
 	"fusee/policy"

@@ -1,4 +1,4 @@
-package hyper
+package hyper_test
 
 import (
 	"math"
@@ -6,8 +6,10 @@ import (
 	"reflect"
 	"testing"
 
+	"fusee/ahead"
 	"fusee/floor"
 	"fusee/handoff"
+	. "fusee/hyper"
 	"fusee/keep"
 	"fusee/leap"
 	"fusee/local"
@@ -19,13 +21,22 @@ import (
 	"fusee/zone"
 )
 
+// now is the time at a host's counter by its page, and how far off it is at most.
+func now(h Host) (int64, int64, error) {
+	p, err := page.Read(h.Page)
+	if err != nil {
+		return 0, 0, err
+	}
+	return ahead.Time(p, h.Counter)
+}
+
 func TestHY4Read(t *testing.T) {
 	m := running(t)
 	m.pass(5)
 	x, _ := handoff.Owned(m.h.T, "b")
-	tai, off, err := present(m.h)
+	tai, off, err := now(m.h)
 	if tai != 1000*second+5 || err != nil {
-		t.Fatalf("present: %d, %d, %v", tai, off, err)
+		t.Fatalf("now: %d, %d, %v", tai, off, err)
 	}
 	want, next, err := tenant.Read(x, table(), tai, off)
 	if err != nil {
@@ -169,7 +180,7 @@ func TestHY4SavingAtTheFloor(t *testing.T) {
 
 func TestHY4Most(t *testing.T) {
 	m := running(t)
-	_, off, _ := present(m.h)
+	_, off, _ := now(m.h)
 	m.h.Clock.R.Most = off
 	m.do(Call{Kind: Read, Name: "b"}, 0)
 	m.h.Clock.R.Most = off - 1
@@ -216,7 +227,7 @@ func TestHY5(t *testing.T) {
 	pb, _ := policy.Encode(p)
 	z := zone.Zone{Name: "new", First: 9, L: []zone.Rule{{At: 5, Off: 6, Name: "n"}}}
 	zb, _ := zone.Encode(z)
-	tai, _, _ := present(m.h)
+	tai, _, _ := now(m.h)
 	want := map[int]func() (tenant.Tenant, error){
 		Policy:  func() (tenant.Tenant, error) { return tenant.Set(x, p) },
 		Quantum: func() (tenant.Tenant, error) { q := x.P; q.Quantum = 13; return tenant.Set(x, q) },

@@ -1,4 +1,4 @@
-package hyper
+package hyper_test
 
 import (
 	"errors"
@@ -10,6 +10,7 @@ import (
 	"fusee/filter"
 	"fusee/handoff"
 	"fusee/host"
+	. "fusee/hyper"
 	"fusee/keep"
 	"fusee/leap"
 	"fusee/message"
@@ -503,7 +504,6 @@ func TestHY3OwnMemory(t *testing.T) {
 		func() Host { return Settle(m.h) },
 		func() Host { return Crash(m.h, []bool{true, true}) },
 		func() Host { return Crash(Settle(m.h), nil) },
-		func() Host { return Copy(m.h) },
 		func() Host { h, _ := Do(m.h, Call{Kind: Read, Name: "b"}); return h },
 		func() Host { h, _ := Do(m.h, Call{Kind: Read, Name: "d"}); return h },
 		func() Host { h, _ := Do(m.h, Call{Kind: Quantum, Name: "b", N: 30}); return h },

@@ -1,4 +1,4 @@
-package keep
+package keep_test
 
 import (
 	"bytes"
@@ -14,6 +14,7 @@ import (
 	"fusee/blob"
 	"fusee/floor"
 	"fusee/handoff"
+	. "fusee/keep"
 	"fusee/message"
 	"fusee/policy"
 	"fusee/prf"

@@ -1,4 +1,4 @@
-package leap
+package leap_test
 
 import (
 	"bytes"
@@ -10,6 +10,7 @@ import (
 	"testing"
 
 	"fusee/api"
+	. "fusee/leap"
 )
 
 // code is the number of an error, 0 without one.

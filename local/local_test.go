@@ -1,4 +1,4 @@
-package local
+package local_test
 
 import (
 	"errors"
@@ -8,6 +8,7 @@ import (
 	"testing"
 
 	"fusee/api"
+	. "fusee/local"
 	"fusee/zone"
 )
 

@@ -1,4 +1,4 @@
-package message
+package message_test
 
 import (
 	"bytes"
@@ -13,6 +13,7 @@ import (
 	"fusee/api"
 	"fusee/floor"
 	"fusee/fuzz"
+	. "fusee/message"
 	"fusee/pause"
 	"fusee/policy"
 	"fusee/prf"
@@ -81,6 +82,9 @@ func packed(t tenant.Tenant, on, set byte) []byte {
 	return append(b, how...)
 }
 
+// sameTenant tells whether two tenants are the same, as messages of them are.
+func sameTenant(a, b tenant.Tenant) bool { return Same(Message{Tenant: a}, Message{Tenant: b}) }
+
 func bit(b bool) byte {
 	if b {
 		return 1
@@ -95,7 +99,7 @@ func TestMS1(t *testing.T) {
 		if !bytes.Equal(b, packed(x, on, set)) || err != nil {
 			t.Errorf("Pack(%v): %x, %v", x, b, err)
 		}
-		if got, err := Unpack(b); !same(got, x) || err != nil {
+		if got, err := Unpack(b); !sameTenant(got, x) || err != nil {
 			t.Errorf("Unpack: %v, %v; want %v", got, err, x)
 		}
 		for n := range b {
@@ -225,7 +229,7 @@ func TestMS2(t *testing.T) {
 		if code(Check(m)) != 1 || b != nil || code(err) != 1 {
 			t.Errorf("%v: %v, %x, %v", m, Check(m), b, err)
 		}
-		if m.Kind != Offer && !same(m.Tenant, tenant.Tenant{}) {
+		if m.Kind != Offer && !sameTenant(m.Tenant, tenant.Tenant{}) {
 			continue
 		}
 		if got, err := Decode(built(m)); !Same(got, Message{}) || code(err) != 3 {
@@ -246,7 +250,7 @@ func TestMS3(t *testing.T) {
 			m := Message{Offer, epoch, x.Name, x}
 			b, eerr := Encode(m)
 			got, derr := Decode(b)
-			if !same(back, x) || !Same(got, m) || perr != nil || uerr != nil || eerr != nil || derr != nil || len(b) > 1033 {
+			if !sameTenant(back, x) || !Same(got, m) || perr != nil || uerr != nil || eerr != nil || derr != nil || len(b) > 1033 {
 				t.Errorf("%v: %v, %v, %v, %v, %v, %v", x, back, got, perr, uerr, eerr, derr)
 			}
 		}

@@ -1,4 +1,4 @@
-package model
+package model_test
 
 import (
 	"errors"
@@ -15,6 +15,7 @@ import (
 	"fusee/hyper"
 	"fusee/leap"
 	"fusee/local"
+	. "fusee/model"
 	"fusee/page"
 	"fusee/policy"
 	"fusee/prf"
@@ -103,7 +104,7 @@ func TestMD1Of(t *testing.T) {
 		"torn": {func(h *hyper.Host) { h.Page[0]++ }, Clock{Code: 15}}, "a wrong sum": {func(h *hyper.Host) { h.Page[4]++ }, Clock{Code: 4}}, "no page": {func(h *hyper.Host) { h.Page = page.Words{} }, Clock{Code: 4}},
 		"stale": {func(h *hyper.Host) { h.Counter = 1<<40 + 1 }, Clock{Code: 14}}, "past": {func(h *hyper.Host) { h.Counter = -1 }, Clock{Code: 10}}, "too far off": {func(h *hyper.Host) { h.Clock.R.Most = off - 1 }, Clock{Code: 13}}, "just not too far off": {func(h *hyper.Host) { h.Clock.R.Most = off }, Clock{0, tai, off}},
 	} {
-		x := hyper.Copy(h)
+		x := h
 		c.change(&x)
 		if got := Of(x); got != c.want {
 			t.Errorf("%s: %v, want %v", name, got, c.want)

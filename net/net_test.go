@@ -1,4 +1,4 @@
-package net
+package net_test
 
 import (
 	"errors"
@@ -8,6 +8,7 @@ import (
 	"testing"
 
 	"fusee/api"
+	. "fusee/net"
 )
 
 // code is the number of an error, 0 without one.

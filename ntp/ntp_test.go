@@ -1,4 +1,4 @@
-package ntp
+package ntp_test
 
 import (
 	"bytes"
@@ -10,6 +10,7 @@ import (
 	"testing"
 
 	"fusee/api"
+	. "fusee/ntp"
 	"fusee/sample"
 	"fusee/span"
 )

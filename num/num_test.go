@@ -1,4 +1,4 @@
-package num
+package num_test
 
 import (
 	"errors"
@@ -8,6 +8,7 @@ import (
 	"testing"
 
 	"fusee/api"
+	. "fusee/num"
 )
 
 // code is the number of an error, 0 without one.

@@ -1,4 +1,4 @@
-package page
+package page_test
 
 import (
 	"bytes"
@@ -11,6 +11,7 @@ import (
 
 	"fusee/api"
 	"fusee/host"
+	. "fusee/page"
 	"fusee/ratio"
 	"fusee/servo"
 )

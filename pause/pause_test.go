@@ -1,4 +1,4 @@
-package pause
+package pause_test
 
 import (
 	"errors"
@@ -7,6 +7,7 @@ import (
 	"testing"
 
 	"fusee/api"
+	. "fusee/pause"
 )
 
 const end = 1 << 62

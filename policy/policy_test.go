@@ -1,4 +1,4 @@
-package policy
+package policy_test
 
 import (
 	"bytes"
@@ -11,6 +11,7 @@ import (
 
 	"fusee/api"
 	"fusee/fuzz"
+	. "fusee/policy"
 	"fusee/smear"
 	"fusee/zone"
 )

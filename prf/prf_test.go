@@ -1,4 +1,4 @@
-package prf
+package prf_test
 
 import (
 	"bytes"
@@ -7,6 +7,8 @@ import (
 	"math/bits"
 	"math/rand"
 	"testing"
+
+	. "fusee/prf"
 )
 
 // counted are the bytes 0, 1, 2 and so on.

@@ -1,4 +1,4 @@
-package publish
+package publish_test
 
 import (
 	"errors"
@@ -7,6 +7,7 @@ import (
 
 	"fusee/api"
 	"fusee/page"
+	. "fusee/publish"
 	"fusee/ratio"
 )
 

@@ -1,4 +1,4 @@
-package quant
+package quant_test
 
 import (
 	"errors"
@@ -9,6 +9,7 @@ import (
 	"testing"
 
 	"fusee/api"
+	. "fusee/quant"
 )
 
 // code is the number of an error, 0 without one.

@@ -1,4 +1,4 @@
-package reader
+package reader_test
 
 import (
 	"errors"
@@ -10,6 +10,7 @@ import (
 	"fusee/page"
 	"fusee/publish"
 	"fusee/ratio"
+	. "fusee/reader"
 )
 
 // code is the number of an error, 0 without one.

@@ -1,4 +1,4 @@
-package sample
+package sample_test
 
 import (
 	"errors"
@@ -8,6 +8,7 @@ import (
 	"testing"
 
 	"fusee/api"
+	. "fusee/sample"
 	"fusee/span"
 )
 

@@ -1,4 +1,4 @@
-package script
+package script_test
 
 import (
 	"bytes"
@@ -9,6 +9,7 @@ import (
 	"testing"
 
 	"fusee/api"
+	. "fusee/script"
 )
 
 // code is the number of an error, 0 without one.

@@ -1,4 +1,4 @@
-package servo
+package servo_test
 
 import (
 	"errors"
@@ -7,6 +7,7 @@ import (
 	"testing"
 
 	"fusee/api"
+	. "fusee/servo"
 )
 
 // code is the number of an error, 0 without one.

@@ -1,4 +1,4 @@
-package smear
+package smear_test
 
 import (
 	"errors"
@@ -10,6 +10,7 @@ import (
 
 	"fusee/api"
 	"fusee/leap"
+	. "fusee/smear"
 )
 
 const second = 1000000000

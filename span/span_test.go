@@ -1,4 +1,4 @@
-package span
+package span_test
 
 import (
 	"errors"
@@ -8,6 +8,7 @@ import (
 	"testing"
 
 	"fusee/api"
+	. "fusee/span"
 )
 
 const (

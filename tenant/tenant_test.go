@@ -1,4 +1,4 @@
-package tenant
+package tenant_test
 
 import (
 	"errors"
@@ -18,6 +18,7 @@ import (
 	"fusee/prf"
 	"fusee/quant"
 	"fusee/smear"
+	. "fusee/tenant"
 	"fusee/zone"
 )
 

@@ -1,4 +1,4 @@
-package told
+package told_test
 
 import (
 	"errors"
@@ -13,6 +13,7 @@ import (
 	"fusee/policy"
 	"fusee/prf"
 	"fusee/tenant"
+	. "fusee/told"
 	"fusee/zone"
 )
 

@@ -1,4 +1,4 @@
-package trace
+package trace_test
 
 import (
 	"errors"
@@ -23,6 +23,7 @@ import (
 	"fusee/smear"
 	"fusee/span"
 	"fusee/tenant"
+	. "fusee/trace"
 	"fusee/twin"
 	"fusee/zone"
 )
@@ -201,8 +202,6 @@ func TestTR2Unknown(t *testing.T) {
 		t.Errorf("a time that is known: %v", e)
 	}
 	// At the counter 2^60 and a start of nearly 2^61, the truth is a time, but of no day that the table knows.
-	short := hyper.Copy(p.T.H[0])
-	p.T.H[0] = short
 	p.T.H[0].Leaps.Last = 5
 	p.T.H[0].Leaps.L = nil
 	p.Start = 1 << 60

@@ -1,4 +1,4 @@
-package twin
+package twin_test
 
 import (
 	"errors"
@@ -23,6 +23,7 @@ import (
 	"fusee/smear"
 	"fusee/span"
 	"fusee/tenant"
+	. "fusee/twin"
 	"fusee/zone"
 )
 

@@ -97,7 +97,7 @@ func functions() map[string]any {
 		"handoff.Check": handoff.Check, "handoff.Home": handoff.Home, "handoff.Put": handoff.Put, "handoff.Owned": handoff.Owned, "handoff.Keep": handoff.Keep, "handoff.Start": handoff.Start, "handoff.On": handoff.On, "handoff.Say": handoff.Say,
 		"keep.Check": keep.Check, "keep.Put": keep.Put, "keep.Sync": keep.Sync, "keep.Crash": keep.Crash, "keep.Get": keep.Get, "keep.Save": keep.Save, "keep.Load": keep.Load, "keep.Entry": keep.Entry, "keep.Open": keep.Open,
 		"slot.Check": slot.Check, "slot.Who": slot.Who, "slot.Left": slot.Left, "slot.Next": slot.Next, "slot.Share": slot.Share,
-		"hyper.New": hyper.New, "hyper.Pass": hyper.Pass, "hyper.Hear": hyper.Hear, "hyper.Learn": hyper.Learn, "hyper.Create": hyper.Create, "hyper.Do": hyper.Do, "hyper.Move": hyper.Move, "hyper.Letter": hyper.Letter, "hyper.Say": hyper.Say, "hyper.Settle": hyper.Settle, "hyper.Crash": hyper.Crash, "hyper.Copy": hyper.Copy,
+		"hyper.New": hyper.New, "hyper.Pass": hyper.Pass, "hyper.Hear": hyper.Hear, "hyper.Learn": hyper.Learn, "hyper.Create": hyper.Create, "hyper.Do": hyper.Do, "hyper.Move": hyper.Move, "hyper.Letter": hyper.Letter, "hyper.Say": hyper.Say, "hyper.Settle": hyper.Settle, "hyper.Crash": hyper.Crash,
 		"twin.New": twin.New, "twin.Do": twin.Do, "twin.Owners": twin.Owners, "twin.Calm": twin.Calm,
 		"audit.Back": audit.Back, "audit.Coarse": audit.Coarse, "audit.Far": audit.Far, "audit.Seen": audit.Seen, "audit.Same": audit.Same, "audit.Worst": audit.Worst,
 		"script.Check": script.Check, "script.Parse": script.Parse, "script.Print": script.Print, "script.Int": script.Int, "script.Hex": script.Hex, "script.Digits": script.Digits,

@@ -1,4 +1,4 @@
-package wide
+package wide_test
 
 import (
 	"errors"
@@ -8,6 +8,7 @@ import (
 	"testing"
 
 	"fusee/api"
+	. "fusee/wide"
 )
 
 // code is the number of an error, 0 without one.

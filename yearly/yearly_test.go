@@ -1,4 +1,4 @@
-package yearly
+package yearly_test
 
 import (
 	"errors"
@@ -11,6 +11,7 @@ import (
 	"time"
 
 	"fusee/api"
+	. "fusee/yearly"
 	"fusee/zone"
 )
 

@@ -1,4 +1,4 @@
-package zone
+package zone_test
 
 import (
 	"bytes"
@@ -10,6 +10,7 @@ import (
 	"testing"
 
 	"fusee/api"
+	. "fusee/zone"
 )
 
 // code is the number of an error, 0 without one.
