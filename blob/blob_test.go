@@ -50,13 +50,13 @@ func TestBL1Seal(t *testing.T) {
 				t.Errorf("Seal(%d) of %d: %x, %v", kind, n, got, err)
 			}
 		}
-		if got, err := Seal(kind, content(1025)); got != nil || code(err) != 5 {
+		if got, err := Seal(kind, content(1025)); len(got) != 0 || code(err) != 5 {
 			t.Errorf("Seal(%d) of 1025: %x, %v", kind, got, err)
 		}
 	}
 	for _, kind := range []uint8{0, 7, 255} {
 		for _, n := range []int{0, 1025} {
-			if got, err := Seal(kind, content(n)); got != nil || code(err) != 1 {
+			if got, err := Seal(kind, content(n)); len(got) != 0 || code(err) != 1 {
 				t.Errorf("Seal(%d): %x, %v", kind, got, err)
 			}
 		}
@@ -109,7 +109,7 @@ func TestBL2Errors(t *testing.T) {
 		{"another kind and a wrong sum", 3, wrongSum, 3},
 	} {
 		got, err := Open(c.kind, c.b)
-		if code(err) != c.code || c.code != 0 && got != nil {
+		if code(err) != c.code || c.code != 0 && len(got) != 0 {
 			t.Errorf("%s: %x, %v", c.name, got, err)
 		}
 	}
@@ -122,7 +122,7 @@ func TestBL3(t *testing.T) {
 			for other := uint8(1); other <= 6; other++ {
 				got, err := Open(other, b)
 				if other != kind {
-					if got != nil || code(err) != 3 {
+					if len(got) != 0 || code(err) != 3 {
 						t.Errorf("kind %d opened as %d: %x, %v", kind, other, got, err)
 					}
 				} else if !bytes.Equal(got, content(n)) || err != nil {
@@ -132,7 +132,7 @@ func TestBL3(t *testing.T) {
 			for bit := range min(len(b)*8, 200) {
 				wrong := bytes.Clone(b)
 				wrong[bit/8] ^= 1 << (bit % 8)
-				if got, err := Open(kind, wrong); got != nil || err == nil {
+				if got, err := Open(kind, wrong); len(got) != 0 || err == nil {
 					t.Errorf("bit %d: %x, %v", bit, got, err)
 				}
 			}

@@ -49,7 +49,7 @@ func TestFD1Text(t *testing.T) {
 			t.Errorf("Text of %d: %x, %v", n, got, err)
 		}
 	}
-	if got, err := Text([]byte("ab"), strings.Repeat("x", 256)); got != nil || code(err) != 5 {
+	if got, err := Text([]byte("ab"), strings.Repeat("x", 256)); len(got) != 0 || code(err) != 5 {
 		t.Errorf("Text of 256: %x, %v", got, err)
 	}
 }

@@ -46,7 +46,7 @@ func TestFI1Check(t *testing.T) {
 			t.Errorf("Check(%v): %v", f, err)
 		}
 		for _, e := range wrongEntries() {
-			if got, err := Put(f, e); got.L != nil || code(err) != 1 {
+			if got, err := Put(f, e); len(got.L) != 0 || code(err) != 1 {
 				t.Errorf("Put(%v, %v): %v, %v", f, e, got, err)
 			}
 		}
@@ -61,7 +61,7 @@ func TestFI1Check(t *testing.T) {
 	for _, f := range bad {
 		p, perr := Put(f, at(0, 0, 0, 0))
 		b, n, berr := Best(f, Rule{0, 1}, 0)
-		if code(Check(f)) != 1 || p.L != nil || code(perr) != 1 || b != (span.Span{}) || n != 0 || code(berr) != 1 {
+		if code(Check(f)) != 1 || len(p.L) != 0 || code(perr) != 1 || b != (span.Span{}) || n != 0 || code(berr) != 1 {
 			t.Errorf("%v: %v, %v, %v", f, Check(f), perr, berr)
 		}
 	}

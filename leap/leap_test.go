@@ -74,7 +74,7 @@ func TestLP1Check(t *testing.T) {
 		u, uerr := UTC(x, math.MaxInt64)
 		n, nerr := TAI(x, Moment{})
 		e, eerr := Encode(x)
-		if u != (Moment{}) || n != 0 || e != nil || code(uerr) != 1 || code(nerr) != 1 || code(eerr) != 1 {
+		if u != (Moment{}) || n != 0 || len(e) != 0 || code(uerr) != 1 || code(nerr) != 1 || code(eerr) != 1 {
 			t.Errorf("%v: %v, %v, %v", x, uerr, nerr, eerr)
 		}
 	}
@@ -214,7 +214,7 @@ func TestLP3(t *testing.T) {
 	}
 	for _, x := range wrong() {
 		got, err := Decode(built(content(x)))
-		if got.Base != 0 || got.Last != 0 || got.L != nil || code(err) != 3 {
+		if got.Base != 0 || got.Last != 0 || len(got.L) != 0 || code(err) != 3 {
 			t.Errorf("Decode of %v: %v, %v", x, got, err)
 		}
 	}
@@ -235,7 +235,7 @@ func TestLP3(t *testing.T) {
 		"a byte more":    {built(append(bytes.Clone(plain), 0)), 3},
 		"no days at all": {built(plain[:16]), 3},
 	} {
-		if got, err := Decode(c.b); got.L != nil || got.Base != 0 || code(err) != c.code {
+		if got, err := Decode(c.b); len(got.L) != 0 || got.Base != 0 || code(err) != c.code {
 			t.Errorf("%s: %v, %v", name, got, err)
 		}
 	}

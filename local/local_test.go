@@ -69,7 +69,7 @@ func TestLC1Errors(t *testing.T) {
 		all, aerr := All(c.z, c.w)
 		one, oerr := One(c.z, c.w)
 		near, nerr := Near(c.z, c.w)
-		if all != nil || one != 0 || near != 0 || code(aerr) != 1 || code(oerr) != 1 || code(nerr) != 1 {
+		if len(all) != 0 || one != 0 || near != 0 || code(aerr) != 1 || code(oerr) != 1 || code(nerr) != 1 {
 			t.Errorf("%v: %v, %v; %d, %v; %d, %v", c, all, aerr, one, oerr, near, nerr)
 		}
 	}

@@ -2,9 +2,9 @@ package model_test
 
 import (
 	"errors"
+	"fmt"
 	"math"
 	"math/rand"
-	"reflect"
 	"slices"
 	"testing"
 
@@ -29,6 +29,9 @@ import (
 )
 
 const second = 1000000000
+
+// alike tells whether two values are the same, where lists without elements are, too.
+func alike(a, b any) bool { return fmt.Sprintf("%+v", a) == fmt.Sprintf("%+v", b) }
 
 // code is the number of an error, 0 without one.
 func code(err error) int {
@@ -138,7 +141,7 @@ func TestMD1Turn(t *testing.T) {
 func TestMD1New(t *testing.T) {
 	x := who("b")
 	m, err := New(x)
-	if !reflect.DeepEqual(m, Model{x}) || err != nil {
+	if !alike(m, Model{x}) || err != nil {
 		t.Errorf("New: %v, %v", m, err)
 	}
 	m.T.P.Zone.L[0].At = 99
@@ -147,18 +150,18 @@ func TestMD1New(t *testing.T) {
 	}
 	for n, no := range map[int]int{16: 0, 17: 1} {
 		x.P.Zone.L = rules(n)
-		if m, err := New(x); code(err) != no || no != 0 && !reflect.DeepEqual(m, Model{}) {
+		if m, err := New(x); code(err) != no || no != 0 && !alike(m, Model{}) {
 			t.Errorf("New with %d rules: %v, %v", n, m, err)
 		}
 	}
-	if m, err := New(tenant.Tenant{}); !reflect.DeepEqual(m, Model{}) || code(err) != 1 {
+	if m, err := New(tenant.Tenant{}); !alike(m, Model{}) || code(err) != 1 {
 		t.Errorf("New of nobody: %v, %v", m, err)
 	}
 }
 
 func TestMD2Example(t *testing.T) {
 	m, _ := New(who("b"))
-	if got, a := Ask(m, Clock{Code: 13}, table(), true, hyper.Call{}); a != (hyper.Answer{Code: 13}) || !reflect.DeepEqual(got, m) {
+	if got, a := Ask(m, Clock{Code: 13}, table(), true, hyper.Call{}); a != (hyper.Answer{Code: 13}) || !alike(got, m) {
 		t.Errorf("Ask: %v, %v", got, a)
 	}
 }
@@ -195,7 +198,7 @@ func TestMD2(t *testing.T) {
 		{hyper.Call{Kind: hyper.Zone, B: zb}, Clock{Code: 13}, set(func(q *policy.Policy) { q.Zone = z }), hyper.Answer{}}, {hyper.Call{Kind: hyper.Stop}, at, stopped, hyper.Answer{}},
 	} {
 		got, a := Ask(m, c.clock, table(), true, c.call)
-		if a != c.a || !reflect.DeepEqual(got, Model{c.want}) {
+		if a != c.a || !alike(got, Model{c.want}) {
 			t.Errorf("%v: %v, %v; want %v, %v", c.call, got, a, c.want, c.a)
 		}
 		got.T.P.Zone.L = append(got.T.P.Zone.L, rules(1)...)
@@ -241,7 +244,7 @@ func TestMD2Errors(t *testing.T) {
 		{"too many rules", m, at, table(), true, hyper.Call{Kind: hyper.Zone, B: many}, 1}, {"too many rules of a policy", m, at, table(), true, hyper.Call{Kind: hyper.Policy, B: how}, 1},
 	} {
 		got, a := Ask(c.m, c.clock, c.l, c.turn, c.call)
-		if a != (hyper.Answer{Code: c.code}) || !reflect.DeepEqual(got, c.m) {
+		if a != (hyper.Answer{Code: c.code}) || !alike(got, c.m) {
 			t.Errorf("%s: %v, %v", c.name, got, a)
 		}
 		got.T.P.Zone.L[0].At = 99
@@ -329,7 +332,7 @@ func TestMD4(t *testing.T) {
 			h = hyper.Settle(next)
 			models[name] = m
 			x, err := handoff.Owned(h.T, name)
-			if err != nil || !reflect.DeepEqual(x, m.T) {
+			if err != nil || !alike(x, m.T) {
 				t.Fatalf("%v: the host has %v, the model %v", c, x, m.T)
 			}
 		}

@@ -53,7 +53,7 @@ func TestNE1Check(t *testing.T) {
 		k, l, kerr := Take(n, -1)
 		o, oerr := Lose(n, 99)
 		d, derr := Double(n, 0)
-		if code(Check(n)) != 1 || code(serr) != 1 || code(kerr) != 1 || code(oerr) != 1 || code(derr) != 1 || s.L != nil || k.L != nil || o.L != nil || d.L != nil || !equal(l, Letter{}) || len(To(n, 0)) != 0 {
+		if code(Check(n)) != 1 || code(serr) != 1 || code(kerr) != 1 || code(oerr) != 1 || code(derr) != 1 || len(s.L) != 0 || len(k.L) != 0 || len(o.L) != 0 || len(d.L) != 0 || !equal(l, Letter{}) || len(To(n, 0)) != 0 {
 			t.Errorf("%v: %v, %v, %v, %v, %v", n, Check(n), serr, kerr, oerr, derr)
 		}
 	}
@@ -70,7 +70,7 @@ func TestNE1Send(t *testing.T) {
 	}
 	for _, l := range []Letter{{2, nil}, {-1, nil}, {0, make([]byte, 1034)}} {
 		for _, n := range []Net{some(), full(32)} {
-			if got, err := Send(n, l); got.L != nil || code(err) != 1 {
+			if got, err := Send(n, l); len(got.L) != 0 || code(err) != 1 {
 				t.Errorf("Send of a wrong letter: %v, %v", got, err)
 			}
 		}
@@ -78,7 +78,7 @@ func TestNE1Send(t *testing.T) {
 	if got, err := Send(full(31), Letter{1, make([]byte, 1033)}); len(got.L) != 32 || err != nil {
 		t.Errorf("Send of the last letter: %v", err)
 	}
-	if got, err := Send(full(32), letter(0, "")); got.L != nil || code(err) != 7 {
+	if got, err := Send(full(32), letter(0, "")); len(got.L) != 0 || code(err) != 7 {
 		t.Errorf("Send beyond: %v, %v", got, err)
 	}
 }
@@ -100,14 +100,14 @@ func TestNE1Places(t *testing.T) {
 		k, l, kerr := Take(some(), i)
 		o, oerr := Lose(some(), i)
 		d, derr := Double(some(), i)
-		if k.L != nil || o.L != nil || d.L != nil || !equal(l, Letter{}) || code(kerr) != 6 || code(oerr) != 6 || code(derr) != 6 {
+		if len(k.L) != 0 || len(o.L) != 0 || len(d.L) != 0 || !equal(l, Letter{}) || code(kerr) != 6 || code(oerr) != 6 || code(derr) != 6 {
 			t.Errorf("at %d: %v, %v, %v", i, kerr, oerr, derr)
 		}
 	}
-	if got, err := Double(full(32), 3); got.L != nil || code(err) != 7 {
+	if got, err := Double(full(32), 3); len(got.L) != 0 || code(err) != 7 {
 		t.Errorf("Double beyond: %v, %v", got, err)
 	}
-	if got, err := Double(full(32), 32); got.L != nil || code(err) != 6 {
+	if got, err := Double(full(32), 32); len(got.L) != 0 || code(err) != 6 {
 		t.Errorf("Double of none beyond: %v, %v", got, err)
 	}
 	if got, err := Double(full(31), 30); len(got.L) != 32 || err != nil {

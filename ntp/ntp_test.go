@@ -88,7 +88,7 @@ func TestNT1Packets(t *testing.T) {
 		b, err := Encode(p)
 		a, aerr := Answer(p, 0, 0, 0)
 		s, serr := Of(p, 0, 0)
-		if code(Check(p)) != 1 || b != nil || code(err) != 1 || a != (Packet{}) || code(aerr) != 1 || s != (sample.Sample{}) || code(serr) != 1 {
+		if code(Check(p)) != 1 || len(b) != 0 || code(err) != 1 || a != (Packet{}) || code(aerr) != 1 || s != (sample.Sample{}) || code(serr) != 1 {
 			t.Errorf("%v: %v, %v, %v, %v", p, Check(p), err, aerr, serr)
 		}
 	}

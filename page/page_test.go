@@ -86,7 +86,7 @@ func TestPG1Check(t *testing.T) {
 	for _, p := range wrong() {
 		w, lerr := Lay(p, 6)
 		b, berr := Encode(p)
-		if code(Check(p)) != 1 || w != (Words{}) || code(lerr) != 1 || b != nil || code(berr) != 1 {
+		if code(Check(p)) != 1 || w != (Words{}) || code(lerr) != 1 || len(b) != 0 || code(berr) != 1 {
 			t.Errorf("%v: %v, %v, %v", p, Check(p), lerr, berr)
 		}
 	}

