@@ -3,11 +3,11 @@ package blob_test
 import (
 	"bytes"
 	"errors"
-	"hash/crc32"
 	"testing"
 
 	"fusee/api"
 	. "fusee/blob"
+	"fusee/crc"
 )
 
 // code is the number of an error, 0 without one.
@@ -34,7 +34,7 @@ func content(n int) []byte {
 // built is a blob, byte by byte, with its sum.
 func built(start string, b []byte) []byte {
 	out := append([]byte(start), b...)
-	s := crc32.ChecksumIEEE(out)
+	s := crc.Sum(out)
 	return append(out, byte(s), byte(s>>8), byte(s>>16), byte(s>>24))
 }
 

@@ -2,7 +2,6 @@ package calls_test
 
 import (
 	"bytes"
-	"encoding/binary"
 	"errors"
 	"fmt"
 	"math"
@@ -26,6 +25,18 @@ import (
 
 // alike tells whether two values are the same, where lists without elements are, too.
 func alike(a, b any) bool { return fmt.Sprintf("%+v", a) == fmt.Sprintf("%+v", b) }
+
+// little are bytes with the lowest bytes of a number behind, the least significant first.
+func little(b []byte, n uint64, size int) []byte {
+	for i := range size {
+		b = append(b, byte(n>>(8*i)))
+	}
+	return b
+}
+
+func le16(b []byte, n uint16) []byte { return little(b, uint64(n), 2) }
+
+func le64(b []byte, n uint64) []byte { return little(b, uint64(n), 8) }
 
 // code is the number of an error, 0 without one.
 func code(err error) int {
@@ -57,8 +68,8 @@ func good() []hyper.Call {
 // written is a call, byte by byte.
 func written(c hyper.Call) []byte {
 	b := append([]byte{'?', byte(c.Kind), byte(len(c.Name))}, c.Name...)
-	b = binary.LittleEndian.AppendUint64(b, uint64(c.N))
-	return append(binary.LittleEndian.AppendUint16(b, uint16(len(c.B))), c.B...)
+	b = le64(b, uint64(c.N))
+	return append(le16(b, uint16(len(c.B))), c.B...)
 }
 
 func sameCall(a, b hyper.Call) bool {
@@ -106,9 +117,9 @@ func answers() []hyper.Answer {
 
 func TestCL1Answers(t *testing.T) {
 	for _, a := range answers() {
-		want := binary.LittleEndian.AppendUint16([]byte{'!'}, uint16(a.Code))
+		want := le16([]byte{'!'}, uint16(a.Code))
 		for _, n := range []int64{a.R.Value, a.R.Bound, a.R.Raised, a.R.Host, a.W.Day, a.W.Second} {
-			want = binary.LittleEndian.AppendUint64(want, uint64(n))
+			want = le64(want, uint64(n))
 		}
 		b, err := Tell(a)
 		if !bytes.Equal(b, want) || err != nil {

@@ -3,13 +3,13 @@ package leap_test
 import (
 	"bytes"
 	"errors"
-	"hash/crc32"
 	"math"
 	"math/rand"
 	"slices"
 	"testing"
 
 	"fusee/api"
+	"fusee/crc"
 	. "fusee/leap"
 )
 
@@ -179,7 +179,7 @@ func TestLP2TAI(t *testing.T) {
 // built is a blob of leap seconds, byte by byte.
 func built(inner []byte) []byte {
 	b := append([]byte{'t', 'm', 5, byte(len(inner)), byte(len(inner) >> 8)}, inner...)
-	s := crc32.ChecksumIEEE(b)
+	s := crc.Sum(b)
 	return append(b, byte(s), byte(s>>8), byte(s>>16), byte(s>>24))
 }
 

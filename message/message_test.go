@@ -2,15 +2,14 @@ package message_test
 
 import (
 	"bytes"
-	"encoding/binary"
 	"errors"
 	"fmt"
-	"hash/crc32"
 	"math"
 	"slices"
 	"testing"
 
 	"fusee/api"
+	"fusee/crc"
 	"fusee/floor"
 	"fusee/fuzz"
 	. "fusee/message"
@@ -24,6 +23,18 @@ import (
 
 // alike tells whether two values are the same, where lists without elements are, too.
 func alike(a, b any) bool { return fmt.Sprintf("%+v", a) == fmt.Sprintf("%+v", b) }
+
+// little are bytes with the lowest bytes of a number behind, the least significant first.
+func little(b []byte, n uint64, size int) []byte {
+	for i := range size {
+		b = append(b, byte(n>>(8*i)))
+	}
+	return b
+}
+
+func le32(b []byte, n uint32) []byte { return little(b, uint64(n), 4) }
+
+func le64(b []byte, n uint64) []byte { return little(b, uint64(n), 8) }
 
 // code is the number of an error, 0 without one.
 func code(err error) int {
@@ -79,9 +90,9 @@ func packed(t tenant.Tenant, on, set byte) []byte {
 	}
 	b := append([]byte{byte(len(t.Name))}, t.Name...)
 	b = append(b, t.Key[:]...)
-	b = append(binary.LittleEndian.AppendUint64(b, uint64(t.Epoch)), on)
-	b = binary.LittleEndian.AppendUint64(binary.LittleEndian.AppendUint64(b, uint64(t.Pause.At)), uint64(t.Pause.Lost))
-	b = binary.LittleEndian.AppendUint64(append(b, set), uint64(t.Floor.At))
+	b = append(le64(b, uint64(t.Epoch)), on)
+	b = le64(le64(b, uint64(t.Pause.At)), uint64(t.Pause.Lost))
+	b = le64(append(b, set), uint64(t.Floor.At))
 	return append(b, how...)
 }
 
@@ -185,7 +196,7 @@ func TestMS2Same(t *testing.T) {
 
 // built is a blob of a message, valid or not.
 func built(m Message) []byte {
-	b := binary.LittleEndian.AppendUint64([]byte{m.Kind}, uint64(m.Epoch))
+	b := le64([]byte{m.Kind}, uint64(m.Epoch))
 	b = append(append(b, byte(len(m.Name))), m.Name...)
 	if m.Kind == Offer {
 		b = append(b, packed(m.Tenant, bit(m.Tenant.Pause.On), bit(m.Tenant.Floor.Set))...)
@@ -195,7 +206,7 @@ func built(m Message) []byte {
 
 func sealed(kind byte, b []byte) []byte {
 	b = append([]byte{'t', 'm', kind, byte(len(b)), byte(len(b) >> 8)}, b...)
-	return binary.LittleEndian.AppendUint32(b, crc32.ChecksumIEEE(b))
+	return le32(b, crc.Sum(b))
 }
 
 func TestMS2(t *testing.T) {

@@ -2,7 +2,6 @@ package ntp_test
 
 import (
 	"bytes"
-	"encoding/binary"
 	"errors"
 	"math"
 	"math/big"
@@ -55,13 +54,18 @@ func wrong() []Packet {
 	}
 }
 
+// big32 are bytes with a number behind, the most significant byte first.
+func big32(b []byte, n uint32) []byte {
+	return append(b, byte(n>>24), byte(n>>16), byte(n>>8), byte(n))
+}
+
 // bytesOf is a packet's encoding, field by field.
 func bytesOf(p Packet) []byte {
 	b := []byte{p.Leap*64 + p.Version*8 + p.Mode, p.Stratum, byte(p.Poll), byte(p.Precision)}
-	b = binary.BigEndian.AppendUint32(binary.BigEndian.AppendUint32(b, p.Delay), p.Spread)
+	b = big32(big32(b, p.Delay), p.Spread)
 	b = append(b, p.Name[:]...)
 	for _, x := range []uint64{p.Set, p.Asked, p.Came, p.Sent} {
-		b = binary.BigEndian.AppendUint64(b, x)
+		b = big32(big32(b, uint32(x>>32)), uint32(x))
 	}
 	return b
 }

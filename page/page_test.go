@@ -2,19 +2,30 @@ package page_test
 
 import (
 	"bytes"
-	"encoding/binary"
 	"errors"
-	"hash/crc32"
 	"math"
 	"math/rand"
 	"testing"
 
 	"fusee/api"
+	"fusee/crc"
 	"fusee/host"
 	. "fusee/page"
 	"fusee/ratio"
 	"fusee/servo"
 )
+
+// little are bytes with the lowest bytes of a number behind, the least significant first.
+func little(b []byte, n uint64, size int) []byte {
+	for i := range size {
+		b = append(b, byte(n>>(8*i)))
+	}
+	return b
+}
+
+func le32(b []byte, n uint32) []byte { return little(b, uint64(n), 4) }
+
+func le64(b []byte, n uint64) []byte { return little(b, uint64(n), 8) }
 
 // code is the number of an error, 0 without one.
 func code(err error) int {
@@ -71,9 +82,9 @@ func laid(p Page, seq uint64) Words {
 func summed(w Words) Words {
 	var b []byte
 	for _, x := range w[1:15] {
-		b = binary.LittleEndian.AppendUint64(b, x)
+		b = le64(b, x)
 	}
-	w[15] = uint64(crc32.ChecksumIEEE(b))
+	w[15] = uint64(crc.Sum(b))
 	return w
 }
 
@@ -188,9 +199,9 @@ func TestPG2Read(t *testing.T) {
 func built(words []uint64) []byte {
 	b := []byte{'t', 'm', 1, byte(8 * len(words)), 0}
 	for _, x := range words {
-		b = binary.LittleEndian.AppendUint64(b, x)
+		b = le64(b, x)
 	}
-	return binary.LittleEndian.AppendUint32(b, crc32.ChecksumIEEE(b))
+	return le32(b, crc.Sum(b))
 }
 
 func TestPG3(t *testing.T) {

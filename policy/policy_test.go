@@ -2,19 +2,32 @@ package policy_test
 
 import (
 	"bytes"
-	"encoding/binary"
 	"errors"
-	"hash/crc32"
 	"math"
 	"slices"
 	"testing"
 
 	"fusee/api"
+	"fusee/crc"
 	"fusee/fuzz"
 	. "fusee/policy"
 	"fusee/smear"
 	"fusee/zone"
 )
+
+// little are bytes with the lowest bytes of a number behind, the least significant first.
+func little(b []byte, n uint64, size int) []byte {
+	for i := range size {
+		b = append(b, byte(n>>(8*i)))
+	}
+	return b
+}
+
+func le16(b []byte, n uint16) []byte { return little(b, uint64(n), 2) }
+
+func le32(b []byte, n uint32) []byte { return little(b, uint64(n), 4) }
+
+func le64(b []byte, n uint64) []byte { return little(b, uint64(n), 8) }
 
 // code is the number of an error, 0 without one.
 func code(err error) int {
@@ -110,15 +123,15 @@ func TestPO1Usual(t *testing.T) {
 // built is a blob, byte by byte.
 func built(kind byte, inner []byte) []byte {
 	b := append([]byte{'t', 'm', kind, byte(len(inner)), byte(len(inner) >> 8)}, inner...)
-	return binary.LittleEndian.AppendUint32(b, crc32.ChecksumIEEE(b))
+	return le32(b, crc.Sum(b))
 }
 
 // place is a zone as a blob, valid or not.
 func place(z zone.Zone) []byte {
 	b := append([]byte{byte(len(z.Name))}, z.Name...)
-	b = append(binary.LittleEndian.AppendUint64(b, uint64(z.First)), byte(len(z.L)))
+	b = append(le64(b, uint64(z.First)), byte(len(z.L)))
 	for _, r := range z.L {
-		b = binary.LittleEndian.AppendUint64(binary.LittleEndian.AppendUint64(b, uint64(r.At)), uint64(r.Off))
+		b = le64(le64(b, uint64(r.At)), uint64(r.Off))
 		b = append(append(b, byte(len(r.Name))), r.Name...)
 	}
 	return built(6, b)
@@ -128,10 +141,10 @@ func place(z zone.Zone) []byte {
 func content(p Policy, jump byte) []byte {
 	b := []byte{byte(p.Smear.Kind)}
 	for _, n := range []int64{p.Smear.Before, p.Smear.After, p.Quantum, p.Fuzz.Width, p.Fuzz.Cell} {
-		b = binary.LittleEndian.AppendUint64(b, uint64(n))
+		b = le64(b, uint64(n))
 	}
 	z := place(p.Zone)
-	return append(binary.LittleEndian.AppendUint16(append(b, jump), uint16(len(z))), z...)
+	return append(le16(append(b, jump), uint16(len(z))), z...)
 }
 
 func TestPO2(t *testing.T) {

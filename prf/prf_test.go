@@ -2,7 +2,6 @@ package prf_test
 
 import (
 	"bytes"
-	"encoding/binary"
 	"math"
 	"math/bits"
 	"math/rand"
@@ -10,6 +9,25 @@ import (
 
 	. "fusee/prf"
 )
+
+// little are bytes with the lowest bytes of a number behind, the least significant first.
+func little(b []byte, n uint64, size int) []byte {
+	for i := range size {
+		b = append(b, byte(n>>(8*i)))
+	}
+	return b
+}
+
+func le64(b []byte, n uint64) []byte { return little(b, uint64(n), 8) }
+
+// word is the number of eight bytes, the least significant first.
+func word(b []byte) uint64 {
+	n := uint64(0)
+	for i := range 8 {
+		n |= uint64(b[i]) << (8 * i)
+	}
+	return n
+}
 
 // counted are the bytes 0, 1, 2 and so on.
 func counted(n int) []byte {
@@ -24,7 +42,7 @@ func key() Key { return Key(counted(16)) }
 
 // other is a second reckoning of the sum, with the words in a list.
 func other(k Key, b []byte) uint64 {
-	k0, k1 := binary.LittleEndian.Uint64(k[:8]), binary.LittleEndian.Uint64(k[8:])
+	k0, k1 := word(k[:8]), word(k[8:])
 	v := [4]uint64{k0 ^ 0x736f6d6570736575, k1 ^ 0x646f72616e646f6d, k0 ^ 0x6c7967656e657261, k1 ^ 0x7465646279746573}
 	mix := func(a, b, by int) {
 		v[a] += v[b]
@@ -43,7 +61,7 @@ func other(k Key, b []byte) uint64 {
 	padded := append(bytes.Clone(b), make([]byte, 7-len(b)%8)...)
 	padded = append(padded, byte(len(b)))
 	for i := 0; i < len(padded); i += 8 {
-		m := binary.LittleEndian.Uint64(padded[i:])
+		m := word(padded[i:])
 		v[3] ^= m
 		rounds(2)
 		v[0] ^= m
@@ -81,7 +99,7 @@ func places() []int64 {
 
 func TestPF2Number(t *testing.T) {
 	for _, place := range places() {
-		sum := other(key(), binary.LittleEndian.AppendUint64(nil, uint64(place)))
+		sum := other(key(), le64(nil, uint64(place)))
 		if got := Number(key(), place, math.MaxUint64); got != sum {
 			t.Errorf("Number of %d: %x", place, got)
 		}
@@ -95,8 +113,8 @@ func TestPF2Number(t *testing.T) {
 
 func TestPF2Derive(t *testing.T) {
 	for _, use := range []uint8{0, 1, 2, 255} {
-		want := binary.LittleEndian.AppendUint64(nil, other(key(), []byte{use, 0}))
-		want = binary.LittleEndian.AppendUint64(want, other(key(), []byte{use, 1}))
+		want := le64(nil, other(key(), []byte{use, 0}))
+		want = le64(want, other(key(), []byte{use, 1}))
 		if got := Derive(key(), use); got != Key(want) {
 			t.Errorf("Derive for %d: %x, want %x", use, got, want)
 		}

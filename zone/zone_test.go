@@ -3,13 +3,13 @@ package zone_test
 import (
 	"bytes"
 	"errors"
-	"hash/crc32"
 	"math"
 	"slices"
 	"strings"
 	"testing"
 
 	"fusee/api"
+	"fusee/crc"
 	. "fusee/zone"
 )
 
@@ -104,7 +104,7 @@ func TestZN1At(t *testing.T) {
 // built is a blob of a zone, byte by byte.
 func built(inner []byte) []byte {
 	b := append([]byte{'t', 'm', 6, byte(len(inner)), byte(len(inner) >> 8)}, inner...)
-	s := crc32.ChecksumIEEE(b)
+	s := crc.Sum(b)
 	return append(b, byte(s), byte(s>>8), byte(s>>16), byte(s>>24))
 }
 
